@@ -1,0 +1,50 @@
+// Package marshal: an interface compiler, and what marshals by it: see DOC.md.
+package marshal
+
+import (
+	"marshal/api"
+	"marshal/fault"
+	"marshal/parse"
+	"marshal/tree"
+)
+
+// Spec is what a text says.
+type Spec struct {
+	defs []tree.Def
+}
+
+// Read reads a text (P3 to P6).
+func Read(text string) (s *Spec, err error) {
+	defer func() {
+		if thrown := recover(); thrown != nil {
+			s, err = nil, fault.Caught(thrown)
+		}
+	}()
+	return &Spec{defs: parse.Text(text)}, nil
+}
+
+// Print writes it (P7).
+func (s *Spec) Print() string { return tree.Print(s.defs) }
+
+// Encode makes bytes of a value (P8).
+func (s *Spec) Encode(name string, v []api.Node, lim api.Limits) (string, error) { return "", nil }
+
+// Decode makes a value of bytes (P9).
+func (s *Spec) Decode(name string, b string, lim api.Limits) ([]api.Node, error) { return nil, nil }
+
+// Leaves goes through the opaques and strings in bytes (P10).
+func (s *Spec) Leaves(name string, b string, lim api.Limits) func(yield func(n api.Node) bool) {
+	return func(yield func(n api.Node) bool) {}
+}
+
+// Server answers the calls of a stream.
+type Server struct{}
+
+// Serve makes a server (P11).
+func (s *Spec) Serve(lim api.Limits, most int, answer api.Answer) (*Server, error) { return nil, nil }
+
+// Feed takes the stream's next bytes, and answers (P12, P13).
+func (x *Server) Feed(chunk string) string { return "" }
+
+// Closed: has the stream ended (P12)?
+func (x *Server) Closed() bool { return false }
