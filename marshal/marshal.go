@@ -3,14 +3,19 @@ package marshal
 
 import (
 	"marshal/api"
+	"marshal/compile"
+	"marshal/encode"
 	"marshal/fault"
+	"marshal/machine"
 	"marshal/parse"
 	"marshal/tree"
 )
 
 // Spec is what a text says.
 type Spec struct {
-	defs []tree.Def
+	defs   []tree.Def
+	code   machine.Code
+	starts map[string]int // by the name of a type where its code starts
 }
 
 // Read reads a text (P3 to P6).
@@ -20,14 +25,42 @@ func Read(text string) (s *Spec, err error) {
 			s, err = nil, fault.Caught(thrown)
 		}
 	}()
-	return &Spec{defs: parse.Text(text)}, nil
+	defs := parse.Text(text)
+	code, starts := compile.Types(defs)
+	return &Spec{defs: defs, code: code, starts: starts}, nil
 }
 
 // Print writes it (P7).
 func (s *Spec) Print() string { return tree.Print(s.defs) }
 
 // Encode makes bytes of a value (P8).
-func (s *Spec) Encode(name string, v []api.Node, lim api.Limits) (string, error) { return "", nil }
+func (s *Spec) Encode(name string, v []api.Node, lim api.Limits) (b string, err error) {
+	defer func() {
+		if thrown := recover(); thrown != nil {
+			b, err = "", fault.Caught(thrown)
+		}
+	}()
+	start, err := s.start(name, lim)
+	if err != nil {
+		return "", err
+	}
+	return encode.Value(s.code, start, v, lim), nil
+}
+
+// start gives where the code of a type starts, if there is one and the limits may be asked for.
+func (s *Spec) start(name string, lim api.Limits) (int, error) {
+	at, ok := s.starts[name]
+	if !ok {
+		return 0, api.ErrNone
+	}
+	if !upTo(lim.Depth, api.MaxDepth) || !upTo(lim.Fuel, api.MaxFuel) || !upTo(lim.Size, api.MaxSize) {
+		return 0, api.ErrLimits
+	}
+	return at, nil
+}
+
+// upTo tells whether a limit is one.
+func upTo(n, most int) bool { return 0 <= n && n <= most }
 
 // Decode makes a value of bytes (P9).
 func (s *Spec) Decode(name string, b string, lim api.Limits) ([]api.Node, error) { return nil, nil }

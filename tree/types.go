@@ -59,6 +59,14 @@ type Bound struct {
 	Fixed bool
 }
 
+// Allows tells whether there may be so many.
+func (b Bound) Allows(n int) bool {
+	if b.Fixed {
+		return int64(n) == b.N
+	}
+	return 0 <= n && int64(n) <= b.N
+}
+
 // Opaque is a type of bytes.
 type Opaque struct {
 	alone
