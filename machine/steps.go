@@ -51,6 +51,14 @@ func (s Number) Has(n int64) bool {
 	return s.Low <= n && n <= s.High && (s.Members == nil || slices.Contains(s.Members, n))
 }
 
+// Of gives the number of a word: where there are numbers below nought, its highest bit is their sign.
+func (s Number) Of(word uint32) int64 {
+	if s.Low < 0 {
+		return int64(int32(word))
+	}
+	return int64(word)
+}
+
 func (s Number) run(m *machine) { m.worker.Number(s) }
 
 // Text is an opaque or a string.

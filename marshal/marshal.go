@@ -4,6 +4,7 @@ package marshal
 import (
 	"marshal/api"
 	"marshal/compile"
+	"marshal/decode"
 	"marshal/encode"
 	"marshal/fault"
 	"marshal/machine"
@@ -63,11 +64,41 @@ func (s *Spec) start(name string, lim api.Limits) (int, error) {
 func upTo(n, most int) bool { return 0 <= n && n <= most }
 
 // Decode makes a value of bytes (P9).
-func (s *Spec) Decode(name string, b string, lim api.Limits) ([]api.Node, error) { return nil, nil }
+func (s *Spec) Decode(name string, b string, lim api.Limits) (v []api.Node, err error) {
+	defer func() {
+		if thrown := recover(); thrown != nil {
+			v, err = nil, fault.Caught(thrown)
+		}
+	}()
+	start, err := s.start(name, lim)
+	if err != nil {
+		return nil, err
+	}
+	return decode.Value(s.code, start, b, lim), nil
+}
 
-// Leaves goes through the opaques and strings in bytes (P10).
+// Leaves goes through the opaques and strings in bytes (P10). The bytes are decoded here and not while it is gone through: they may not be kept (P2).
 func (s *Spec) Leaves(name string, b string, lim api.Limits) func(yield func(n api.Node) bool) {
-	return func(yield func(n api.Node) bool) {}
+	v, _ := s.Decode(name, b, lim)
+	kept := texts(v)
+	return func(yield func(n api.Node) bool) {
+		for _, n := range kept {
+			if !yield(n) {
+				return
+			}
+		}
+	}
+}
+
+// texts gives those of a value, in a list of their own: the rest of the value need not be kept with them.
+func texts(v []api.Node) []api.Node {
+	var out []api.Node
+	for _, n := range v {
+		if n.Kind == api.KText {
+			out = append(out, n)
+		}
+	}
+	return out
 }
 
 // Server answers the calls of a stream.
