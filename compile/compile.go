@@ -8,6 +8,13 @@ import (
 	"marshal/tree"
 )
 
+// Unit is what a text is compiled to.
+type Unit struct {
+	Code     machine.Code
+	Types    map[string]int     // by the name of a type where its code starts
+	Programs map[uint32]Program // by their numbers
+}
+
 // compiler lays down steps one behind the other.
 type compiler struct {
 	code   machine.Code
@@ -22,21 +29,27 @@ type call struct {
 	name string
 }
 
-// Types gives the code of definitions, and by the name of each type where to start in it.
-func Types(defs []tree.Def) (machine.Code, map[string]int) {
+// Text compiles the definitions of a text.
+func Text(defs []tree.Def) Unit {
 	c := &compiler{bodies: map[string]int{}, enums: map[string]machine.Number{}}
-	starts := map[string]int{}
 	for _, d := range defs {
 		c.definition(d)
 	}
+	types, programs := c.types(defs), c.programs(defs)
+	c.link()
+	return Unit{Code: c.code, Types: types, Programs: programs}
+}
+
+// types gives by the name of each type where its code starts.
+func (c *compiler) types(defs []tree.Def) map[string]int {
+	starts := map[string]int{}
 	for _, d := range defs {
-		name := d.Title().Text
-		if _, ok := c.bodies[name]; ok {
-			starts[name] = c.start(name)
+		name := d.Title()
+		if _, ok := c.bodies[name.Text]; ok {
+			starts[name.Text] = c.start(tree.Named{Name: name})
 		}
 	}
-	c.link()
-	return c.code, starts
+	return starts
 }
 
 // put lays a step down, and gives its place.
@@ -59,10 +72,10 @@ func (c *compiler) link() {
 	}
 }
 
-// start lays down what a value of a name's type begins and ends with: the name itself counts, too.
-func (c *compiler) start(name string) int {
+// start lays down a whole value of a type: of a name, so that the name itself counts, too, and of void nothing but the end.
+func (c *compiler) start(t tree.Type) int {
 	at := c.here()
-	c.call(name)
+	c.value(t)
 	c.put(machine.End{})
 	return at
 }

@@ -7,7 +7,7 @@ import (
 	"marshal/tree"
 )
 
-// value lays down what goes through a value of a type.
+// value lays down what goes through a value of a type; of void there is none.
 func (c *compiler) value(t tree.Type) {
 	switch t := t.(type) {
 	case tree.Named:

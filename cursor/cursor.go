@@ -23,6 +23,9 @@ func (c *Cursor) At() int { return c.at }
 // Left tells how many bytes there are from there on.
 func (c *Cursor) Left() int { return len(c.bytes) - c.at }
 
+// Rest gives these bytes.
+func (c *Cursor) Rest() string { return c.bytes[c.at:] }
+
 // Word takes a word of 32 bits.
 func (c *Cursor) Word() uint32 { return uint32(big(c.take(4))) }
 

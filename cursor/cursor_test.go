@@ -25,10 +25,13 @@ func TestPartsAreTakenOneBehindTheOther(t *testing.T) {
 	if got := c.Padded(5); got != "abcde" || c.At() != 20 || c.Left() != 4 {
 		t.Errorf("the bytes are %q, and it stands at %d", got, c.At())
 	}
+	if got := c.Rest(); got != "wxyz" || c.At() != 20 {
+		t.Errorf("the rest is %q, and it stands at %d", got, c.At())
+	}
 	if got := c.Padded(0); got != "" || c.At() != 20 {
 		t.Errorf("no bytes are %q, and it stands at %d", got, c.At())
 	}
-	if got := c.Padded(4); got != "wxyz" || c.Left() != 0 {
+	if got := c.Padded(4); got != "wxyz" || c.Left() != 0 || c.Rest() != "" {
 		t.Errorf("the last bytes are %q, and %d are left", got, c.Left())
 	}
 }

@@ -98,7 +98,7 @@ func (e *encoder) room(bytes int) {
 // word writes the low 32 bits of a number.
 func (e *encoder) word(n int64) {
 	e.room(4)
-	e.out = append(e.out, byte(n>>24), byte(n>>16), byte(n>>8), byte(n))
+	e.out = appendWord(e.out, uint32(n))
 }
 
 // padded writes bytes and their padding. There must be room for all of them ahead of the first: a text may be far longer than what may be written.
@@ -109,4 +109,17 @@ func (e *encoder) padded(text string) {
 	for range whole - len(text) {
 		e.out = append(e.out, 0)
 	}
+}
+
+// Words gives the bytes of words of 32 bits.
+func Words(words ...uint32) string {
+	var out []byte
+	for _, w := range words {
+		out = appendWord(out, w)
+	}
+	return string(out)
+}
+
+func appendWord(out []byte, w uint32) []byte {
+	return append(out, byte(w>>24), byte(w>>16), byte(w>>8), byte(w))
 }

@@ -35,20 +35,21 @@ func checkBytesModel(t *testing.T, s *marshal.Spec, types map[string]tree.Def, n
 	return e
 }
 
-// spoilBytes changes bytes a little.
+// spoilBytes changes bytes, of which there must be some, a little.
 func spoilBytes(throw func(n int) int, b string) string {
 	words := []int64{0, 1, -1, 2, 3, 4, 7, -3, math.MinInt32, math.MaxInt32, 1 << 24}
 	i := throw(len(b))
 	word := i / 4 * 4
+	behind := min(word+4, len(b))
 	switch throw(6) {
 	case 0:
-		return b[:word] + words32(words[throw(len(words))]) + b[word+4:]
+		return b[:word] + words32(words[throw(len(words))]) + b[behind:]
 	case 1:
 		return b[:i] + string([]byte{byte(throw(256))}) + b[i+1:]
 	case 2:
 		return b[:i]
 	case 3:
-		return b[:word] + b[word+4:]
+		return b[:word] + b[behind:]
 	case 4:
 		return b[:word] + words32(words[throw(len(words))]) + b[word:]
 	}

@@ -2,21 +2,23 @@
 package marshal
 
 import (
+	"strings"
+
 	"marshal/api"
+	"marshal/calls"
 	"marshal/compile"
 	"marshal/decode"
 	"marshal/encode"
 	"marshal/fault"
-	"marshal/machine"
 	"marshal/parse"
+	"marshal/records"
 	"marshal/tree"
 )
 
 // Spec is what a text says.
 type Spec struct {
-	defs   []tree.Def
-	code   machine.Code
-	starts map[string]int // by the name of a type where its code starts
+	defs []tree.Def
+	unit compile.Unit
 }
 
 // Read reads a text (P3 to P6).
@@ -27,8 +29,7 @@ func Read(text string) (s *Spec, err error) {
 		}
 	}()
 	defs := parse.Text(text)
-	code, starts := compile.Types(defs)
-	return &Spec{defs: defs, code: code, starts: starts}, nil
+	return &Spec{defs: defs, unit: compile.Text(defs)}, nil
 }
 
 // Print writes it (P7).
@@ -45,19 +46,24 @@ func (s *Spec) Encode(name string, v []api.Node, lim api.Limits) (b string, err 
 	if err != nil {
 		return "", err
 	}
-	return encode.Value(s.code, start, v, lim), nil
+	return encode.Value(s.unit.Code, start, v, lim), nil
 }
 
 // start gives where the code of a type starts, if there is one and the limits may be asked for.
 func (s *Spec) start(name string, lim api.Limits) (int, error) {
-	at, ok := s.starts[name]
+	at, ok := s.unit.Types[name]
 	if !ok {
 		return 0, api.ErrNone
 	}
-	if !upTo(lim.Depth, api.MaxDepth) || !upTo(lim.Fuel, api.MaxFuel) || !upTo(lim.Size, api.MaxSize) {
+	if !may(lim) {
 		return 0, api.ErrLimits
 	}
 	return at, nil
+}
+
+// may tells whether limits may be asked for.
+func may(lim api.Limits) bool {
+	return upTo(lim.Depth, api.MaxDepth) && upTo(lim.Fuel, api.MaxFuel) && upTo(lim.Size, api.MaxSize)
 }
 
 // upTo tells whether a limit is one.
@@ -74,7 +80,7 @@ func (s *Spec) Decode(name string, b string, lim api.Limits) (v []api.Node, err 
 	if err != nil {
 		return nil, err
 	}
-	return decode.Value(s.code, start, b, lim), nil
+	return decode.Value(s.unit.Code, start, b, lim), nil
 }
 
 // Leaves goes through the opaques and strings in bytes (P10). The bytes are decoded here and not while it is gone through: they may not be kept (P2).
@@ -102,13 +108,30 @@ func texts(v []api.Node) []api.Node {
 }
 
 // Server answers the calls of a stream.
-type Server struct{}
+type Server struct {
+	stream *records.Stream
+	desk   *calls.Desk
+}
 
 // Serve makes a server (P11).
-func (s *Spec) Serve(lim api.Limits, most int, answer api.Answer) (*Server, error) { return nil, nil }
+func (s *Spec) Serve(lim api.Limits, most int, answer api.Answer) (*Server, error) {
+	if !may(lim) || !upTo(most, api.MaxSize) {
+		return nil, api.ErrLimits
+	}
+	desk := &calls.Desk{Unit: s.unit, Lim: lim, Answer: answer}
+	return &Server{stream: records.New(most), desk: desk}, nil
+}
 
 // Feed takes the stream's next bytes, and answers (P12, P13).
-func (x *Server) Feed(chunk string) string { return "" }
+func (x *Server) Feed(chunk string) string {
+	var out strings.Builder
+	x.stream.Take(chunk, func(record string) {
+		if reply := x.desk.Reply(record); reply != "" {
+			out.WriteString(records.Fragment(reply))
+		}
+	})
+	return out.String()
+}
 
 // Closed: has the stream ended (P12)?
-func (x *Server) Closed() bool { return false }
+func (x *Server) Closed() bool { return x.stream.Closed() }
